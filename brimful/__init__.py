@@ -1,0 +1,1 @@
+"""Brimful: computing in memory that is full of somebody else's data."""
