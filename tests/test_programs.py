@@ -5,6 +5,7 @@ import unittest
 
 from brimful.errors import BadStep
 from brimful.programs import Program
+from tests.wrong import NEVER_RIGHT, part_at, places, replaced
 
 GREATEST_PRIME = 999999937
 ADD = ("add", 0, 3, (("cell", 1), ("input", 0), ("cell", 1)))
@@ -12,33 +13,6 @@ SCALE = ("scale", 1, 2)
 SWAP = ("swap", 0, 2)
 TABLE = ("table", 2, 4, ((0, 1), (2, 3)), 0, 1)
 RIGHT = [5, 3, 1, [ADD, SCALE, SWAP, TABLE]]
-# True is no integer, and no place of a program takes any of these.
-NEVER_RIGHT = (True, False, None, "", "0", "add", b"cell", 1.0, -1, {}, [0], (0,), ((),), [()], 10 ** 30)
-
-
-def places(value, path=()):
-    """The paths to all parts of a nested value, the value itself left out."""
-    found = []
-    if isinstance(value, (list, tuple)):
-        for at, part in enumerate(value):
-            found.append(path + (at,))
-            found.extend(places(part, path + (at,)))
-    return found
-
-
-def part_at(value, path):
-    for at in path:
-        value = value[at]
-    return value
-
-
-def replaced(value, path, new):
-    """A copy of the nested value with something else at the path."""
-    if not path:
-        return new
-    parts = list(value)
-    parts[path[0]] = replaced(parts[path[0]], path[1:], new)
-    return parts if isinstance(value, list) else tuple(parts)
 
 
 class RejectingTest(unittest.TestCase):
