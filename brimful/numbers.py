@@ -70,12 +70,12 @@ def _shares(size, prime, x):
     for at in range(size):
         top = top * (x - at) % prime
     shares = []
-    for at, bottom in enumerate(_bottoms(size, prime)):
+    for at, bottom in enumerate(products_of_differences(size, prime)):
         shares.append(top * inverse_of((x - at) * bottom, prime) % prime)
     return shares
 
 
-def _bottoms(size, prime):
+def products_of_differences(size, prime):
     """For each index, the product of its differences to all other indexes."""
     factorials = [1]
     for n in range(1, size):

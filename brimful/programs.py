@@ -2,7 +2,7 @@
 
 from brimful.errors import BadMemory, BadStep
 from brimful.numbers import are_numbers, is_below, is_modulus, is_prime
-from brimful.steps import changes, inverse_step, is_step
+from brimful.steps import inverse_step, is_step, performed
 
 MOST_CELLS = 60
 MOST_INPUTS = 60
@@ -42,12 +42,7 @@ class Program:
             raise BadMemory(f"the memory is not a list of {self.cells} numbers")
         if not are_numbers(given, self.inputs, self.modulus):
             raise BadMemory(f"the inputs are not a list of {self.inputs} numbers")
-        behind = list(memory)
-        for step in self.steps:
-            changed = changes(step, behind, given, self.modulus)
-            for cell, content in changed:
-                behind[cell] = content
-        return behind
+        return performed(self.steps, memory, given, self.modulus)
 
     def part(self, n):
         """The program of the first n steps."""

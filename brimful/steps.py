@@ -25,7 +25,7 @@ def is_step(step, modulus, cells, inputs):
             return is_below(a, cells) and is_below(b, cells) and a != b
         case ("table", target, sign, table, a, b):
             return (_are_three_cells(target, a, b, cells) and _is_sign(sign, modulus)
-                    and _is_table(table, modulus))
+                    and is_table(table, modulus))
         case _:
             return False
 
@@ -58,7 +58,8 @@ def _is_sign(sign, modulus):
     return is_below(sign, modulus) and sign in (1, modulus - 1)
 
 
-def _is_table(table, modulus):
+def is_table(table, modulus):
+    """Whether this is a square tuple of tuples of numbers, with at most as many rows as there are numbers."""
     if not isinstance(table, tuple) or not 1 <= len(table) <= modulus:
         return False
     return all([_is_row(row, len(table), modulus) for row in table])
@@ -83,6 +84,16 @@ def changes(step, memory, given, modulus):
         case ("table", target, sign, table, a, b):
             amount = sign * interpolate(table, modulus, memory[a], memory[b])
             return [(target, (memory[target] + amount) % modulus)]
+
+
+def performed(steps, memory, given, modulus):
+    """The memory behind steps of a program, a new list."""
+    behind = list(memory)
+    for step in steps:
+        changed = changes(step, behind, given, modulus)
+        for cell, content in changed:
+            behind[cell] = content
+    return behind
 
 
 def _product_of(factors, memory, given, modulus):

@@ -1,4 +1,6 @@
-"""Numbers in texts."""
+"""Numbers and lists of numbers in texts."""
+
+EMPTY = "-"
 
 
 def number_in(word, most_figures):
@@ -11,3 +13,15 @@ def number_in(word, most_figures):
     if word[0] == "0" and len(word) > 1:
         return None
     return int(word)
+
+
+def numbers_in(word, most_figures):
+    """The list that the word writes with commas; None stands in it for each part that is no number."""
+    if word == EMPTY:
+        return []
+    return [number_in(part, most_figures) for part in word.split(",")]
+
+
+def written(numbers):
+    """The word that writes the list with commas."""
+    return ",".join([f"{number}" for number in numbers])
